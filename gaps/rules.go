@@ -1,8 +1,6 @@
 package gaps
 
 import (
-	"strings"
-
 	"dossier/api"
 	"dossier/cell"
 	"dossier/dec"
@@ -48,9 +46,9 @@ func sideOf(s string) (lo, hi int, ok bool) {
 	case api.TestAny:
 		lo, hi, ok = 0, api.MaxPoint, true
 	case api.TestCmp:
-		lo, hi, ok = related(t, s)
+		lo, hi, ok = related(t)
 	case api.TestRange:
-		lo, hi, ok = between(t, s)
+		lo, hi, ok = between(t)
 	}
 	if !ok || lo > hi {
 		return 0, 0, false
@@ -59,9 +57,9 @@ func sideOf(s string) (lo, hi int, ok bool) {
 }
 
 // related is what a relation to a number covers.
-func related(t api.Test, s string) (lo, hi int, ok bool) {
+func related(t api.Test) (lo, hi int, ok bool) {
 	n, ok := point(t.A)
-	if !ok || brackets(s) != 0 {
+	if !ok {
 		return 0, 0, false
 	}
 	switch t.Rel {
@@ -80,10 +78,10 @@ func related(t api.Test, s string) (lo, hi int, ok bool) {
 }
 
 // between is what a range of two numbers covers.
-func between(t api.Test, s string) (lo, hi int, ok bool) {
+func between(t api.Test) (lo, hi int, ok bool) {
 	lo, from := point(t.A)
 	hi, to := point(t.B)
-	if !from || !to || brackets(s) != 2 {
+	if !from || !to {
 		return 0, 0, false
 	}
 	if !t.Lo {
@@ -102,16 +100,4 @@ func point(x api.Expr) (int, bool) {
 		return 0, false
 	}
 	return d.M, true
-}
-
-// brackets is how many of them a cell has. A test does not tell brackets round
-// a number, but the cell does: where it is of numbers alone, no text hides one.
-func brackets(s string) int {
-	n := 0
-	for _, r := range s {
-		if strings.ContainsRune("()[]", r) {
-			n++
-		}
-	}
-	return n
 }
